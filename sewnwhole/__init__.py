@@ -1,0 +1,1 @@
+"""Sewnwhole: patchwork patterns, patches, seams and orders."""

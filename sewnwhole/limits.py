@@ -1,0 +1,12 @@
+"""The limits that the points of the document name."""
+
+SIDE = 10
+NAMES = 52
+CELL_SIZE = 40
+ALLOWANCE = 10
+PIECES = 9
+PIECE = 1000
+BOLT = 2000
+ORDERS = 60
+PURCHASE = 1000000
+STOCK = 1000000000
