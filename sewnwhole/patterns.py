@@ -1,4 +1,4 @@
-"""Patterns and their texts."""
+"""Patterns and their texts, and what the texts of patterns and of pictures have in common."""
 
 from sewnwhole.cells import halves, is_cell
 from sewnwhole.errors import TextError
@@ -13,32 +13,35 @@ def lines_of(text):
     return lines
 
 
-def row_fault(words, rows):
-    """Return the first fault of the words of a line that stands below faultless rows, or None."""
-    if len(rows) >= SIDE:
+def row_fault(rows, index, is_item, fault):
+    """Return the first fault of one of several rows, or None; the rows above it have none."""
+    row = rows[index]
+    if index >= SIDE:
         return "too many rows"
-    if not all([is_cell(word) for word in words]):
-        return "not a cell"
-    if len(words) > SIDE:
+    if not row or not all([is_item(item) for item in row]):
+        return fault
+    if len(row) > SIDE:
         return "too many columns"
-    if rows and len(words) != len(rows[0]):
+    if len(row) != len(rows[0]):
         return "another length"
     return None
 
 
-def read_pattern(text):
-    """Return the pattern that a text tells; raise TextError for its first fault."""
-    rows = []
-    lines = lines_of(text)
-    for number, line in enumerate(lines, start=1):
-        words = line.split(" ")
-        what = row_fault(words, rows)
+def check_rows(rows, is_item, fault):
+    """Raise TextError for the first fault of the rows of a text; one with a wrong item has the given fault."""
+    for index in range(len(rows)):
+        what = row_fault(rows, index, is_item, fault)
         if what is not None:
-            raise TextError(number, what)
-        rows.append(tuple(words))
+            raise TextError(index + 1, what)
     if not rows:
         raise TextError(1, "no rows")
-    return tuple(rows)
+
+
+def read_pattern(text):
+    """Return the pattern that a text tells; raise TextError for its first fault."""
+    rows = [line.split(" ") for line in lines_of(text)]
+    check_rows(rows, is_cell, "not a cell")
+    return tuple([tuple(row) for row in rows])
 
 
 def format_pattern(pattern):
@@ -54,3 +57,8 @@ def half_cells(pattern):
             for fabric in halves(cell):
                 counts[fabric] = counts.get(fabric, 0) + 1
     return [(fabric, counts[fabric]) for fabric in sorted(counts)]
+
+
+def size_of(pattern):
+    """Return the pair of the numbers of rows and columns of a pattern."""
+    return len(pattern), max([len(row) for row in pattern], default=0)

@@ -6,28 +6,32 @@ TURNS = 4
 SYMMETRIES = 8
 
 
-def quarter_turn(pattern):
-    """Return a pattern turned clockwise by a quarter turn."""
-    upended = pattern[::-1]
-    return tuple([tuple([turned_cell(cell) for cell in row]) for row in zip(*upended)])
-
-
-def mirror_image(pattern):
-    """Return a pattern with left and right exchanged."""
-    return tuple([tuple([mirrored_cell(cell) for cell in row[::-1]]) for row in pattern])
-
-
 def is_mirroring(symmetry):
     """Tell whether a symmetry mirrors patterns before it turns them."""
     return symmetry >= TURNS
 
 
+def moved_rows(rows, symmetry):
+    """Return the list of rows that a symmetry makes of rows, whose items are only moved."""
+    moved = [row[::-1] for row in rows] if is_mirroring(symmetry) else list(rows)
+    for _ in range(symmetry % TURNS):
+        upended = moved[::-1]
+        moved = list(zip(*upended))
+    return moved
+
+
+def moved_cell(cell, symmetry):
+    """Return a cell as it is in what a symmetry makes of its pattern."""
+    moved = mirrored_cell(cell) if is_mirroring(symmetry) else cell
+    for _ in range(symmetry % TURNS):
+        moved = turned_cell(moved)
+    return moved
+
+
 def transformed(pattern, symmetry):
     """Return the pattern that a symmetry makes of a pattern."""
-    moved = mirror_image(pattern) if is_mirroring(symmetry) else pattern
-    for _ in range(symmetry % TURNS):
-        moved = quarter_turn(moved)
-    return moved
+    rows = moved_rows(pattern, symmetry)
+    return tuple([tuple([moved_cell(cell, symmetry) for cell in row]) for row in rows])
 
 
 def composed(first, second):

@@ -8,10 +8,20 @@ import unittest
 
 import sewnwhole.cells
 import sewnwhole.errors
+import sewnwhole.layouts
 import sewnwhole.limits
+import sewnwhole.patches
 import sewnwhole.patterns
+import sewnwhole.pictures
+import sewnwhole.seams
 import sewnwhole.symmetries
+from sewnwhole.layouts import arranged, decomposed, repeat_of, tiled, transformed_layout, unit_of
+from sewnwhole.patches import (
+    fits, merged_strips, neighbors, row_strips, seam_length, sides, transformed_patches,
+)
 from sewnwhole.patterns import format_pattern, half_cells, read_pattern
+from sewnwhole.pictures import picture, read_picture
+from sewnwhole.seams import can_be_sewn, split, straight_seams
 from sewnwhole.symmetries import (
     canonical, composed, first_naming, inverse, kind_of, stabilizer, symmetry_between, transformed,
 )
@@ -32,6 +42,33 @@ FUNCTIONS = {
         "stabilizer": ["pattern"],
         "first_naming": ["pattern"],
         "kind_of": ["pattern"],
+    },
+    sewnwhole.layouts: {
+        "arranged": ["blocks", "layout"],
+        "transformed_layout": ["layout", "symmetry"],
+        "decomposed": ["pattern", "size"],
+        "repeat_of": ["pattern"],
+        "unit_of": ["pattern"],
+        "tiled": ["pattern", "down", "across"],
+    },
+    sewnwhole.patches: {
+        "check_patches": ["rows"],
+        "sides": ["patches"],
+        "fits": ["pattern", "patches"],
+        "row_strips": ["pattern"],
+        "merged_strips": ["pattern"],
+        "neighbors": ["patches"],
+        "seam_length": ["patches"],
+        "transformed_patches": ["patches", "symmetry"],
+    },
+    sewnwhole.pictures: {
+        "picture": ["patches"],
+        "read_picture": ["text"],
+    },
+    sewnwhole.seams: {
+        "straight_seams": ["patches"],
+        "split": ["patches", "seam"],
+        "can_be_sewn": ["patches"],
     },
 }
 
@@ -62,6 +99,23 @@ class InterfaceTest(unittest.TestCase):
         )
         self.assertEqual(kind_of((("c", "c", "x"),)), (("a", "a", "b"),))
 
+    def test_the_examples_of_layouts_and_patches(self):
+        self.assertEqual(
+            arranged(((("a", "b"), ("a", "a")),), (((0, 0), (0, 1)),)), (("a", "b", "a", "a"), ("a", "a", "a", "b")),
+        )
+        self.assertEqual(
+            decomposed((("a", "b", "a", "a"), ("a", "a", "a", "b")), 2),
+            (((("a", "a"), ("a", "b")),), (((0, 3), (0, 0)),)),
+        )
+        self.assertEqual(
+            read_picture("AAB\nCDB\nCEE\n"), ((0, 0, 1, 2), (0, 2, 2, 1), (1, 0, 2, 1), (1, 1, 1, 1), (2, 1, 1, 2)),
+        )
+        q = (("a", "a", "b"), ("a", "a", "b"))
+        self.assertEqual(
+            (merged_strips(q), seam_length(row_strips(q)), seam_length(merged_strips(q))),
+            (((0, 0, 2, 2), (0, 2, 2, 1)), 5, 2),
+        )
+
     def test_the_examples_of_the_readme(self):
         result = doctest.testfile(str(TOP / "README.md"), module_relative=False)
         self.assertGreater(result.attempted, 0)
@@ -79,6 +133,26 @@ class InterfaceTest(unittest.TestCase):
             inverse(symmetry)
             composed(symmetry, 4)
             composed(4, symmetry)
+
+    def test_layouts_and_patches_somewhat_beyond_the_limits_raise_no_error(self):
+        large = tuple(("a", "b/c", "d") * 4 for _ in range(12))
+        for pattern in (large, (), ((),)):
+            for function in (repeat_of, unit_of, row_strips, merged_strips):
+                function(pattern)
+            self.assertTrue(fits(pattern, row_strips(pattern)) or pattern == ((),))
+        self.assertEqual(decomposed(large, 12)[0], (canonical(large),))
+        self.assertEqual(len(decomposed(large, 4)[1]), 3)
+        for down, across in ((0, 1), (1, 0), (-1, 1), (1, -1)):
+            tiled((("a",),), down, across)
+        layout = (((0, 0), (1, 5)) * 6,) * 12
+        self.assertEqual(transformed_layout(transformed_layout(layout, 1), 3), layout)
+        for symmetry in (-1, 8, 9):
+            transformed_layout(layout, symmetry)
+            transformed_patches(((0, 0, 12, 1), (0, 1, 12, 13)), symmetry)
+        cells = tuple((row, column, 1, 1) for row in range(12) for column in range(13))
+        self.assertEqual((sides(cells), seam_length(cells), len(straight_seams(cells))), ((12, 13), 287, 23))
+        self.assertEqual(picture(((0, 0, 12, 1), (0, 1, 12, 13))), ("A" + "B" * 13 + "\n") * 12)
+        self.assertTrue(can_be_sewn(cells))
 
 
 class NothingOutsideTest(unittest.TestCase):
@@ -110,6 +184,24 @@ class NothingOutsideTest(unittest.TestCase):
         again = [[function(pattern) for pattern in patterns[::-1]] for function in functions[::-1]]
         self.assertEqual([row[::-1] for row in again[::-1]], once)
         self.assertEqual(patterns, [read_pattern(text) for text in texts])
+
+    def test_layouts_and_patches_in_any_order_return_the_same(self):
+        pictures = ["AAB\nCDB\nCEE\n", "A\n", "AAB\nCCB\nDEE\n", "AB\nCB\n"]
+        patches = [read_picture(text) for text in pictures]
+        patterns = [read_pattern(text) for text in ("a a b\nc d b\n", "z\n", "a b/a a b/a\n", "a a\na a\n")]
+        calls = [(function, patterns) for function in (repeat_of, unit_of, row_strips, merged_strips)]
+        calls += [(function, patches) for function in (sides, neighbors, seam_length, picture)]
+        calls += [(function, patches) for function in (straight_seams, can_be_sewn)]
+        once = [[function(argument) for argument in arguments] for function, arguments in calls]
+        kept = repr(once)
+        for row in once:
+            for value in row:
+                if isinstance(value, list):
+                    value.append("more")
+        again = [[function(argument) for argument in arguments[::-1]][::-1] for function, arguments in calls[::-1]]
+        self.assertEqual(repr(again[::-1]), kept)
+        self.assertEqual(patches, [read_picture(text) for text in pictures])
+        self.assertEqual(split(patches[2], ("-", 2)), ([0, 1, 2], [3, 4]))
 
 
 class FormTest(unittest.TestCase):
