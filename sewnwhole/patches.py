@@ -74,6 +74,14 @@ def sides(patches):
     return max(bottoms, default=0), max(rights, default=0)
 
 
+def covered(patches):
+    """Return the least rectangle in which all of several patches lie."""
+    top = min([patch[0] for patch in patches], default=0)
+    left = min([patch[1] for patch in patches], default=0)
+    bottom, right = sides(patches)
+    return top, left, bottom - top, right - left
+
+
 def can_be_cut(pattern, patch):
     """Tell whether a patch of a pattern is a single cell, or plain and of one fabric."""
     cells = [pattern[row][column] for row, column in cells_of(patch)]

@@ -6,21 +6,32 @@ import inspect
 import pathlib
 import unittest
 
+import sewnwhole.assemblies
 import sewnwhole.cells
+import sewnwhole.cores
+import sewnwhole.cutting
 import sewnwhole.errors
 import sewnwhole.layouts
 import sewnwhole.limits
+import sewnwhole.lines
 import sewnwhole.patches
 import sewnwhole.patterns
 import sewnwhole.pictures
+import sewnwhole.plans
 import sewnwhole.seams
+import sewnwhole.sections
 import sewnwhole.symmetries
+from helpers import PINWHEEL
+from sewnwhole.assemblies import Assembly
+from sewnwhole.cores import core, core_paper, is_core_paper
+from sewnwhole.cutting import best_patches
 from sewnwhole.layouts import arranged, decomposed, repeat_of, tiled, transformed_layout, unit_of
 from sewnwhole.patches import (
     fits, merged_strips, neighbors, row_strips, seam_length, sides, transformed_patches,
 )
 from sewnwhole.patterns import format_pattern, half_cells, read_pattern
 from sewnwhole.pictures import picture, read_picture
+from sewnwhole.plans import number_of_ways, placed, sewing_plan
 from sewnwhole.seams import can_be_sewn, split, straight_seams
 from sewnwhole.symmetries import (
     canonical, composed, first_naming, inverse, kind_of, stabilizer, symmetry_between, transformed,
@@ -70,6 +81,24 @@ FUNCTIONS = {
         "split": ["patches", "seam"],
         "can_be_sewn": ["patches"],
     },
+    sewnwhole.cutting: {
+        "best_patches": ["pattern"],
+    },
+    sewnwhole.plans: {
+        "placed": ["plan", "sizes"],
+        "sewing_plan": ["patches"],
+        "number_of_ways": ["patches"],
+    },
+    sewnwhole.cores: {
+        "core": ["patches"],
+        "core_paper": ["patches"],
+        "is_core_paper": ["patches", "paper"],
+    },
+}
+CLASSES = {
+    sewnwhole.assemblies: {
+        "Assembly": ["pattern", "patches"],
+    },
 }
 
 
@@ -86,6 +115,14 @@ class InterfaceTest(unittest.TestCase):
                 self.assertTrue(inspect.isfunction(function), name)
                 self.assertEqual(function.__module__, module.__name__, name)
                 self.assertEqual(list(inspect.signature(function).parameters), arguments, name)
+
+    def test_classes_and_their_arguments(self):
+        for module, classes in CLASSES.items():
+            for name, arguments in classes.items():
+                made = getattr(module, name)
+                self.assertTrue(inspect.isclass(made), name)
+                self.assertEqual((made.__module__, made.__bases__), (module.__name__, (object,)), name)
+                self.assertEqual(list(inspect.signature(made).parameters), arguments, name)
 
     def test_the_examples(self):
         p = read_pattern("a a/b\nb a\n")
@@ -115,6 +152,13 @@ class InterfaceTest(unittest.TestCase):
             (merged_strips(q), seam_length(row_strips(q)), seam_length(merged_strips(q))),
             (((0, 0, 2, 2), (0, 2, 2, 1)), 5, 2),
         )
+
+    def test_the_examples_of_plans_and_cores(self):
+        q = (("a", "a", "b"), ("a", "a", "b"))
+        self.assertEqual(
+            (sewing_plan(row_strips(q)), number_of_ways(row_strips(q))), ([0, 2, "-", 1, 3, "-", "|"], 2),
+        )
+        self.assertEqual(core_paper(read_picture("AAB\nCDB\nCEE\n")), ((0, 0, 3, 3), (0, 4), (1, 2)))
 
     def test_the_examples_of_the_readme(self):
         result = doctest.testfile(str(TOP / "README.md"), module_relative=False)
@@ -154,8 +198,33 @@ class InterfaceTest(unittest.TestCase):
         self.assertEqual(picture(((0, 0, 12, 1), (0, 1, 12, 13))), ("A" + "B" * 13 + "\n") * 12)
         self.assertTrue(can_be_sewn(cells))
 
+    def test_plans_and_assemblies_somewhat_beyond_the_limits_raise_no_error(self):
+        for pattern in ((), ((),)):
+            self.assertEqual(best_patches(pattern), ())
+        large = (("a", "b/c", "d") * 4,) * 12
+        self.assertTrue(fits(large, best_patches(large)))
+        cells = tuple((row, column, 1, 1) for row in range(12) for column in range(12))
+        self.assertEqual(len(sewing_plan(cells)), 287)
+        self.assertGreater(number_of_ways(cells), 10 ** 40)
+        self.assertIsNone(core(cells))
+        self.assertEqual(placed([0], [(12, 11)]), ((0, 0, 12, 11),))
+        assembly = Assembly((("a",) * 12,) * 12, cells)
+        self.assertEqual((len(assembly), assembly.join(0, 1), assembly.is_completable), (144, 1, True))
+        self.assertEqual(len(assembly.finish()), 142)
+
 
 class NothingOutsideTest(unittest.TestCase):
+    def assert_same_again(self, calls):
+        """Assert that calls return the same in another order, and when what they returned has been modified."""
+        once = [[function(argument) for argument in arguments] for function, arguments in calls]
+        kept = repr(once)
+        for row in once:
+            for value in row:
+                if isinstance(value, list):
+                    value.append("more")
+        again = [[function(argument) for argument in arguments[::-1]][::-1] for function, arguments in calls[::-1]]
+        self.assertEqual(repr(again[::-1]), kept)
+
     def test_modules_import_only_from_the_package(self):
         for path in package_files():
             for node in ast.walk(ast.parse(path.read_text(encoding="utf-8"))):
@@ -171,7 +240,8 @@ class NothingOutsideTest(unittest.TestCase):
             self.assertEqual(names & barred, set(), path.name)
 
     def test_no_lists_or_dicts_are_kept_between_calls(self):
-        for module in (sewnwhole.cells, sewnwhole.errors, sewnwhole.limits, *FUNCTIONS):
+        others = (sewnwhole.cells, sewnwhole.errors, sewnwhole.limits, sewnwhole.lines, sewnwhole.sections)
+        for module in (*others, *FUNCTIONS, *CLASSES):
             for name, value in vars(module).items():
                 if not name.startswith("__"):
                     self.assertNotIsInstance(value, (list, dict, set, bytearray), name)
@@ -192,16 +262,21 @@ class NothingOutsideTest(unittest.TestCase):
         calls = [(function, patterns) for function in (repeat_of, unit_of, row_strips, merged_strips)]
         calls += [(function, patches) for function in (sides, neighbors, seam_length, picture)]
         calls += [(function, patches) for function in (straight_seams, can_be_sewn)]
-        once = [[function(argument) for argument in arguments] for function, arguments in calls]
-        kept = repr(once)
-        for row in once:
-            for value in row:
-                if isinstance(value, list):
-                    value.append("more")
-        again = [[function(argument) for argument in arguments[::-1]][::-1] for function, arguments in calls[::-1]]
-        self.assertEqual(repr(again[::-1]), kept)
+        self.assert_same_again(calls)
         self.assertEqual(patches, [read_picture(text) for text in pictures])
         self.assertEqual(split(patches[2], ("-", 2)), ([0, 1, 2], [3, 4]))
+
+    def test_plans_and_assemblies_in_any_order_return_the_same(self):
+        pictures = ["AAB\nCDB\nCEE\n", "A\n", "AAB\nCCB\nDEE\n", "AB\nCB\n"]
+        patches = [read_picture(text) for text in pictures]
+        patterns = [read_pattern(text) for text in ("a a b\nc d b\n", "z\n", "a b/a a b/a\n", "a a\nb a\n")]
+        calls = [(best_patches, patterns)]
+        calls += [(function, patches) for function in (sewing_plan, number_of_ways, core, core_paper)]
+        self.assert_same_again(calls)
+        plan, sizes = [0, 1, "|"], [(1, 1), (1, 2)]
+        self.assertEqual(placed(plan, sizes), placed(plan, sizes))
+        self.assertEqual((plan, sizes), ([0, 1, "|"], [(1, 1), (1, 2)]))
+        self.assertTrue(is_core_paper(PINWHEEL, core_paper(PINWHEEL)))
 
 
 class FormTest(unittest.TestCase):

@@ -4,20 +4,13 @@ import itertools
 import random
 import unittest
 
+from helpers import PINWHEEL, cells_of_rectangle, chance_patches, partitions
 from sewnwhole.errors import PatchError, SewnError
 from sewnwhole.patches import (
     check_patches, fits, merged_strips, neighbors, row_strips, seam_length, sides, transformed_patches,
 )
 from sewnwhole.patterns import read_pattern
 from sewnwhole.symmetries import composed, inverse, transformed
-
-PINWHEEL = ((0, 0, 1, 2), (0, 2, 2, 1), (1, 0, 2, 1), (1, 1, 1, 1), (2, 1, 1, 2))
-
-
-def cells_of_rectangle(rectangle):
-    """Return the set of the cells of a rectangle."""
-    top, left, height, width = rectangle
-    return {(top + down, left + across) for down in range(height) for across in range(width)}
 
 
 def number_grid(patches):
@@ -26,41 +19,6 @@ def number_grid(patches):
                for number, patch in enumerate(patches) for cell in cells_of_rectangle(patch)}
     rows, columns = max(row for row, _ in numbers) + 1, max(column for _, column in numbers) + 1
     return tuple(tuple(numbers[row, column] for column in range(columns)) for row in range(rows))
-
-
-def partitions(height, width):
-    """Return the list of all patches of so many rows and columns, in the order in which they occur first."""
-    found = []
-
-    def extend(patches, taken):
-        free = [cell for cell in itertools.product(range(height), range(width)) if cell not in taken]
-        if not free:
-            found.append(tuple(patches))
-            return
-        row, column = free[0]
-        for many, wide in itertools.product(range(1, height - row + 1), range(1, width - column + 1)):
-            patch = (row, column, many, wide)
-            cells = cells_of_rectangle(patch)
-            if not cells & taken:
-                extend([*patches, patch], taken | cells)
-
-    extend([], set())
-    return found
-
-
-def chance_patches(lot, height, width, largest=4):
-    """Return patches of so many rows and columns that are drawn by lot, in an order that is, too."""
-    taken, patches = set(), []
-    for row, column in itertools.product(range(height), range(width)):
-        if (row, column) not in taken:
-            many, wide = lot.randint(1, min(largest, height - row)), lot.randint(1, min(largest, width - column))
-            patch = (row, column, many, wide)
-            while cells_of_rectangle(patch) & taken:
-                patch = (*patch[:3], patch[3] - 1)
-            taken |= cells_of_rectangle(patch)
-            patches.append(patch)
-    lot.shuffle(patches)
-    return tuple(patches)
 
 
 def first_fault(rows):

@@ -3,12 +3,12 @@
 import random
 import unittest
 
+from helpers import PINWHEEL
 from sewnwhole.errors import PatchError, SewnError, TextError
 from sewnwhole.patches import check_patches
 from sewnwhole.pictures import picture, read_picture
 
 NAMES = "ABCDEFGHIJKLMNOPQRSTUVWXYZabcdefghijklmnopqrstuvwxyz"
-PINWHEEL = ((0, 0, 1, 2), (0, 2, 2, 1), (1, 0, 2, 1), (1, 1, 1, 1), (2, 1, 1, 2))
 
 
 def cells(height, width):
@@ -29,7 +29,7 @@ def painted(patches):
     return text
 
 
-def chance_patches(lot, height, width):
+def banded_patches(lot, height, width):
     """Return patches that are drawn by lot, in the order in which they occur first."""
     patches = []
     bands = [0, *sorted(lot.sample(range(1, height), lot.randint(0, min(3, height - 1)))), height]
@@ -72,7 +72,7 @@ class PictureTest(unittest.TestCase):
     def test_painted_cell_by_cell_and_read_back(self):
         lot = random.Random(23)
         for _ in range(200):
-            patches = chance_patches(lot, lot.randint(1, 10), lot.randint(1, 10))
+            patches = banded_patches(lot, lot.randint(1, 10), lot.randint(1, 10))
             mixed = list(patches)
             lot.shuffle(mixed)
             text = picture(tuple(mixed))

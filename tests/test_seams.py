@@ -1,87 +1,12 @@
 """Straight seams, their parts, and what can be sewn: the point [16]."""
 
-import itertools
 import random
 import unittest
 
+from helpers import MIRRORED_PINWHEEL, PINWHEEL, partitions, seams_by_cells, sewn_at_random, sewn_by_joins
 from sewnwhole.patches import sides, transformed_patches
 from sewnwhole.pictures import read_picture
 from sewnwhole.seams import can_be_sewn, split, straight_seams
-
-PINWHEEL = read_picture("AAB\nCDB\nCEE\n")
-MIRRORED_PINWHEEL = read_picture("ABB\nACD\nEED\n")
-
-
-def cells_of_rectangle(rectangle):
-    """Return the set of the cells of a rectangle."""
-    top, left, height, width = rectangle
-    return {(top + down, left + across) for down in range(height) for across in range(width)}
-
-
-def seams_by_cells(patches):
-    """Return the list of the straight seams of patches, found cell by cell."""
-    owner = {cell: number for number, patch in enumerate(patches) for cell in cells_of_rectangle(patch)}
-    found = []
-    for direction, axis in (("|", 1), ("-", 0)):
-        starts = [cell[axis] for cell in owner]
-        for position in range(min(starts) + 1, max(starts) + 1):
-            before = {number for cell, number in owner.items() if cell[axis] < position}
-            behind = {number for cell, number in owner.items() if cell[axis] >= position}
-            if not before & behind:
-                found.append((direction, position, sorted(before), sorted(behind)))
-    return found
-
-
-def sewn_by_joins(patches):
-    """Tell whether some order of joins along full sides makes one rectangle of the patches."""
-    waiting, seen = [frozenset(patches)], set()
-    while waiting:
-        sections = waiting.pop()
-        if len(sections) == 1:
-            return True
-        for one, other in itertools.permutations(sections, 2):
-            top, left, height, width = one
-            if other == (top, left + width, height, other[3]):
-                whole = (top, left, height, width + other[3])
-            elif other == (top + height, left, other[2], width):
-                whole = (top, left, height + other[2], width)
-            else:
-                continue
-            joined = sections - {one, other} | {whole}
-            if joined not in seen:
-                seen.add(joined)
-                waiting.append(joined)
-    return False
-
-
-def partitions(height, width):
-    """Return the list of all patches of so many rows and columns."""
-    found, waiting = [], [((), frozenset())]
-    while waiting:
-        patches, taken = waiting.pop()
-        free = [cell for cell in itertools.product(range(height), range(width)) if cell not in taken]
-        if not free:
-            found.append(patches)
-            continue
-        row, column = free[0]
-        for many, wide in itertools.product(range(1, height - row + 1), range(1, width - column + 1)):
-            patch = (row, column, many, wide)
-            if not cells_of_rectangle(patch) & taken:
-                waiting.append(((*patches, patch), taken | cells_of_rectangle(patch)))
-    return found
-
-
-def sewn_at_random(lot, top, left, height, width):
-    """Return patches that are cut out of a rectangle by straight cuts."""
-    cuts = [("|", column) for column in range(1, width)] + [("-", row) for row in range(1, height)]
-    if not cuts or lot.random() < 0.15:
-        return [(top, left, height, width)]
-    direction, at = lot.choice(cuts)
-    if direction == "|":
-        return (sewn_at_random(lot, top, left, height, at)
-                + sewn_at_random(lot, top, left + at, height, width - at))
-    return (sewn_at_random(lot, top, left, at, width)
-            + sewn_at_random(lot, top + at, left, height - at, width))
 
 
 class StraightSeamsTest(unittest.TestCase):
