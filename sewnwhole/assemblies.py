@@ -4,8 +4,7 @@ from sewnwhole.cores import core_paper
 from sewnwhole.errors import AssemblyError
 from sewnwhole.patches import fits
 from sewnwhole.seams import can_be_sewn, full_side
-from sewnwhole.sections import first_safe_pair, first_sections, is_safe, joined, rectangles_of
-from sewnwhole.sections import safe_pairs, section_with
+from sewnwhole.sections import first_safe_pair, first_sections, is_safe, joined, rectangles_of, safe_pairs, section_with
 
 
 class Assembly:

@@ -130,6 +130,16 @@ def fitting_pattern(lot, patches, fabrics="abc"):
     return tuple(tuple(cells[row, column] for column in range(columns)) for row in range(rows))
 
 
+def any_plan(lot, patches, numbers=None):
+    """Return a plan that sews patches by straight seams that are drawn by lot."""
+    numbers = list(range(len(patches))) if numbers is None else numbers
+    if len(numbers) == 1:
+        return numbers
+    direction, _, before, behind = lot.choice(seams_by_cells([patches[number] for number in numbers]))
+    parts = [[numbers[at] for at in part] for part in (before, behind)]
+    return any_plan(lot, patches, parts[0]) + any_plan(lot, patches, parts[1]) + [direction]
+
+
 def chance_pattern(lot, height, width, fabrics="aab", diagonals=0.1):
     """Return a pattern of so many rows and columns whose cells are drawn by lot."""
     return tuple(tuple(lot.choice("/\\").join(lot.sample("ab", 2)) if lot.random() < diagonals else lot.choice(fabrics)

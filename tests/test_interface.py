@@ -7,10 +7,13 @@ import pathlib
 import unittest
 
 import sewnwhole.assemblies
+import sewnwhole.bolts
 import sewnwhole.cells
 import sewnwhole.cores
 import sewnwhole.cutting
 import sewnwhole.errors
+import sewnwhole.fabric
+import sewnwhole.judges
 import sewnwhole.layouts
 import sewnwhole.limits
 import sewnwhole.lines
@@ -21,10 +24,14 @@ import sewnwhole.plans
 import sewnwhole.seams
 import sewnwhole.sections
 import sewnwhole.symmetries
+import sewnwhole.workrooms
 from helpers import PINWHEEL
 from sewnwhole.assemblies import Assembly
+from sewnwhole.bolts import best_cutting, flaw_of_cutting, row_length
 from sewnwhole.cores import core, core_paper, is_core_paper
 from sewnwhole.cutting import best_patches
+from sewnwhole.fabric import fabric_needed, pieces_of, total_fabric
+from sewnwhole.judges import answer, flaw_of_plan, judge
 from sewnwhole.layouts import arranged, decomposed, repeat_of, tiled, transformed_layout, unit_of
 from sewnwhole.patches import (
     fits, merged_strips, neighbors, row_strips, seam_length, sides, transformed_patches,
@@ -36,6 +43,7 @@ from sewnwhole.seams import can_be_sewn, split, straight_seams
 from sewnwhole.symmetries import (
     canonical, composed, first_naming, inverse, kind_of, stabilizer, symmetry_between, transformed,
 )
+from sewnwhole.workrooms import Workroom
 
 TOP = pathlib.Path(__file__).resolve().parent.parent
 FUNCTIONS = {
@@ -94,10 +102,29 @@ FUNCTIONS = {
         "core_paper": ["patches"],
         "is_core_paper": ["patches", "paper"],
     },
+    sewnwhole.fabric: {
+        "fabric_needed": ["pattern", "patches", "cell_size", "allowance"],
+        "total_fabric": ["patches", "cell_size", "allowance"],
+        "pieces_of": ["pattern", "patches", "fabric", "cell_size", "allowance"],
+    },
+    sewnwhole.bolts: {
+        "row_length": ["pieces", "row", "width", "turned"],
+        "best_cutting": ["pieces", "width", "turned"],
+        "flaw_of_cutting": ["pieces", "width", "cutting", "turned"],
+    },
+    sewnwhole.judges: {
+        "flaw_of_plan": ["patches", "plan"],
+        "answer": ["question"],
+        "judge": ["claim"],
+        "judge_all": ["claims"],
+    },
 }
 CLASSES = {
     sewnwhole.assemblies: {
         "Assembly": ["pattern", "patches"],
+    },
+    sewnwhole.workrooms: {
+        "Workroom": [],
     },
 }
 
@@ -115,6 +142,15 @@ class InterfaceTest(unittest.TestCase):
                 self.assertTrue(inspect.isfunction(function), name)
                 self.assertEqual(function.__module__, module.__name__, name)
                 self.assertEqual(list(inspect.signature(function).parameters), arguments, name)
+
+    def test_only_turned_is_passed_by_name_alone_and_may_be_left_out(self):
+        for module, functions in FUNCTIONS.items():
+            for name in functions:
+                for parameter in inspect.signature(getattr(module, name)).parameters.values():
+                    turned = parameter.name == "turned"
+                    self.assertEqual(parameter.kind, parameter.KEYWORD_ONLY if turned
+                                     else parameter.POSITIONAL_OR_KEYWORD, name)
+                    self.assertIs(parameter.default, False if turned else parameter.empty, name)
 
     def test_classes_and_their_arguments(self):
         for module, classes in CLASSES.items():
@@ -159,6 +195,10 @@ class InterfaceTest(unittest.TestCase):
             (sewing_plan(row_strips(q)), number_of_ways(row_strips(q))), ([0, 2, "-", 1, 3, "-", "|"], 2),
         )
         self.assertEqual(core_paper(read_picture("AAB\nCDB\nCEE\n")), ((0, 0, 3, 3), (0, 4), (1, 2)))
+
+    def test_the_examples_of_bolts(self):
+        self.assertEqual(best_cutting([(4, 6), (3, 5), (6, 2), (2, 2)], 8), (8, ((0, 1), (2, 3))))
+        self.assertEqual(best_cutting([(4, 6), (6, 3)], 7, turned=True), (6, ((0, 1),)))
 
     def test_the_examples_of_the_readme(self):
         result = doctest.testfile(str(TOP / "README.md"), module_relative=False)
@@ -212,6 +252,25 @@ class InterfaceTest(unittest.TestCase):
         self.assertEqual((len(assembly), assembly.join(0, 1), assembly.is_completable), (144, 1, True))
         self.assertEqual(len(assembly.finish()), 142)
 
+    def test_fabric_and_workrooms_somewhat_beyond_the_limits_raise_no_error(self):
+        cells = (("a", "b/c") * 6,) * 12
+        patches = row_strips(cells)
+        for cell_size, allowance in ((0, 0), (41, 11), (1000, 0), (1, 100)):
+            self.assertEqual(len(fabric_needed(cells, patches, cell_size, allowance)), 3 if cell_size else 0)
+            self.assertEqual(len(pieces_of(cells, patches, "a", cell_size, allowance)), 72)
+            total_fabric(patches, cell_size, allowance)
+        pieces = [(1001, 2000)] * 10
+        self.assertEqual(best_cutting(pieces, 2002), (10000, tuple((at, at + 1) for at in range(0, 10, 2))))
+        self.assertEqual(best_cutting(pieces[:2], 5000, turned=True), (1001, ((0, 1),)))
+        self.assertEqual(row_length(pieces, (), 5), 0)
+        self.assertEqual(row_length(pieces, (), 5, turned=True), 0)
+        self.assertEqual(flaw_of_cutting(pieces, 0, ((0,),)), (0, "does not fit"))
+        workroom = Workroom()
+        self.assertEqual((workroom.buy("a", 0), workroom.stock, workroom.buy("a", 1000001)), (0, [], 1000001))
+        self.assertEqual(workroom.take((("a",) * 11,), ((0, 0, 1, 11),), 41, 11), 1)
+        self.assertEqual(answer(("sewn", ((0, 0, 12, 1), (0, 1, 12, 13))))[2], [0, 1, "|"])
+        self.assertIs(judge(("alike", cells, cells, 0)), True)
+
 
 class NothingOutsideTest(unittest.TestCase):
     def assert_same_again(self, calls):
@@ -244,7 +303,11 @@ class NothingOutsideTest(unittest.TestCase):
         for module in (*others, *FUNCTIONS, *CLASSES):
             for name, value in vars(module).items():
                 if not name.startswith("__"):
-                    self.assertNotIsInstance(value, (list, dict, set, bytearray), name)
+                    self.assertNotIsInstance(value, (list, set, bytearray), name)
+                if isinstance(value, dict) and not name.startswith("__"):
+                    # Tables of functions are only read.
+                    self.assertEqual({inspect.isfunction(entry) for entry in value.values()}, {True}, name)
+                    self.assertEqual(name, name.upper())
 
     def test_calls_in_any_order_return_the_same(self):
         texts = ["a a/b\nb a\n", "z\n", "q\\c c\nc/q q\nx y\n"]
@@ -277,6 +340,23 @@ class NothingOutsideTest(unittest.TestCase):
         self.assertEqual(placed(plan, sizes), placed(plan, sizes))
         self.assertEqual((plan, sizes), ([0, 1, "|"], [(1, 1), (1, 2)]))
         self.assertTrue(is_core_paper(PINWHEEL, core_paper(PINWHEEL)))
+
+    def test_fabric_and_judgments_in_any_order_return_the_same(self):
+        pattern = read_pattern("a a b\nc d b/a\n")
+        patches = row_strips(pattern)
+        pieces = [(4, 6), (3, 5), (6, 2), (2, 2)]
+        questions = [("alike", pattern, pattern), ("sewn", patches), ("sewn", PINWHEEL), ("cut", pieces, 8, 8),
+                     ("cut", pieces, 8, 7), ("finish", pattern, patches, [(2, 3)])]
+        kept = repr(questions)
+        calls = [(answer, questions), (sewnwhole.judges.judge_all, [[answer(question) for question in questions]])]
+        calls += [(function, [1, 40]) for function in (
+            lambda size: fabric_needed(pattern, patches, size, 2), lambda size: total_fabric(patches, size, 2),
+            lambda size: pieces_of(pattern, patches, "a", size, 2), lambda size: best_cutting(pieces, 6 + size),
+            lambda size: flaw_of_cutting(pieces, size, ((0, 1), (2, 3))), lambda size: row_length(pieces, (0, 1), size),
+            lambda size: flaw_of_plan(patches, [0, 1, "|", size]),
+        )]
+        self.assert_same_again(calls)
+        self.assertEqual(repr(questions), kept)
 
 
 class FormTest(unittest.TestCase):

@@ -8,8 +8,8 @@ import time
 import unittest
 
 from helpers import (
-    MIRRORED_PINWHEEL, PINWHEEL, cells_as_patches, cells_of_rectangle, chance_patches, fault_of, mixed_at_random,
-    partitions, seams_by_cells, sewn_at_random, sewn_by_joins,
+    MIRRORED_PINWHEEL, PINWHEEL, any_plan, cells_as_patches, cells_of_rectangle, chance_patches, fault_of,
+    mixed_at_random, partitions, seams_by_cells, sewn_at_random, sewn_by_joins,
 )
 from sewnwhole.errors import PlanError, SewnError
 from sewnwhole.patches import seam_length
@@ -55,16 +55,6 @@ def placed_by_cells(plan, sizes):
 def sizes_of(patches):
     """Return the list of the sizes of patches."""
     return [patch[2:] for patch in patches]
-
-
-def any_plan(lot, patches, numbers=None):
-    """Return a plan that sews patches by straight seams that are drawn by lot."""
-    numbers = list(range(len(patches))) if numbers is None else numbers
-    if len(numbers) == 1:
-        return numbers
-    direction, _, before, behind = lot.choice(seams_by_cells([patches[number] for number in numbers]))
-    parts = [[numbers[at] for at in part] for part in (before, behind)]
-    return any_plan(lot, patches, parts[0]) + any_plan(lot, patches, parts[1]) + [direction]
 
 
 def plans_of(patches, numbers):
